@@ -116,7 +116,7 @@ func crowdedLedger(accounts int, holds int, seen int) impl.Ledger {
 	return l
 }
 
-// apply wants the code, and that nothing but what was asked for changed: of a refusal, Seen at most.
+// apply wants the code, and a right ledger behind the command.
 func apply(t *testing.T, l impl.Ledger, c impl.Command, code int64) impl.Ledger {
 	t.Helper()
 	got, told := impl.Applied(l, c)
