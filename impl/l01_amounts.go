@@ -12,14 +12,14 @@ const (
 )
 
 func NameOk(s string) bool {
-	return 1 <= len(s) && len(s) <= longestName && lettersOf(s, 'a', 'z')
+	return 1 <= len(s) && len(s) <= longestName && allWithin(s, 'a', 'z')
 }
 
 func CurOk(s string) bool {
-	return len(s) == curLength && lettersOf(s, 'A', 'Z')
+	return len(s) == curLength && allWithin(s, 'A', 'Z')
 }
 
-func lettersOf(s string, low byte, high byte) bool {
+func allWithin(s string, low byte, high byte) bool {
 	for i := range len(s) {
 		if s[i] < low || s[i] > high {
 			return false

@@ -49,6 +49,7 @@ func checkEdits(t *testing.T, edits []edit) {
 		if impl.LedgerOk(l) != e.right || rightLedger(l) != e.right {
 			t.Errorf("%s: LedgerOk is %v", e.name, impl.LedgerOk(l))
 		}
+		checkLedgerText(t, l, e.right)
 		asked := []int64{impl.HeldOf(l, "ann"), impl.FreeOf(l, "ann"), impl.TotalOf(l, "EUR")}
 		for i, n := range asked {
 			if (n == -1) == e.right {
