@@ -133,7 +133,7 @@ func LedgerOk(l Ledger) bool {
 	if len(l.Accounts) > MaxAccounts || len(l.Holds) > MaxHolds || len(l.Seen) > MaxSeen {
 		return false
 	}
-	if !accountsOk(l.Accounts) || !seenOk(l.Seen) {
+	if !accountsOk(l.Accounts) || !seenOk(l.Seen, ledgerCode) {
 		return false
 	}
 	b := bookOf(l)
@@ -159,16 +159,20 @@ func accountsOk(list []Account) bool {
 	return true
 }
 
-func seenOk(list []Answered) bool {
+func seenOk(list []Answered, codeOk func(code int64) bool) bool {
 	for i, s := range list {
 		if i > 0 && list[i-1].Id >= s.Id {
 			return false
 		}
-		if !numberOk(s.Id) || s.Code != LgDone && !within(s.Code, LgSame, LgHold) {
+		if !numberOk(s.Id) || !codeOk(s.Code) {
 			return false
 		}
 	}
 	return true
+}
+
+func ledgerCode(code int64) bool {
+	return code == LgDone || within(code, LgSame, LgHold)
 }
 
 func (b *book) holdsOk() bool {
